@@ -1,0 +1,1 @@
+"""Splitrooms: rooms found by the first signs of a mixed name."""
