@@ -1,48 +1,12 @@
 """Points 1 to 3: names, mixed names and signs."""
 
 import unittest
-from decimal import Decimal
-from fractions import Fraction
 
+from reckoning import NO_NAMES
 from splitrooms.errors import BadBound, BadName, NoStore, NoThing, RoomError
 from splitrooms.mixing import SIGNS, mixed, signs, unmixed
 
 ALL = range(256)
-
-
-class Posing:
-    """Poses as a whole number, but cannot be reckoned with."""
-
-    @property
-    def __class__(self):
-        return int
-
-
-class Hostile:
-    """Fails at whatever is asked of it."""
-
-    def _fail(self, *_):
-        raise RuntimeError("asked")
-
-    __eq__ = __lt__ = __le__ = __gt__ = __ge__ = _fail
-    __bool__ = __int__ = __index__ = __repr__ = __str__ = __len__ = _fail
-    __hash__ = None
-
-
-class Index:
-    """No whole number, but one that Python takes for an index."""
-
-    def __index__(self):
-        return 7
-
-
-NO_NAMES = (
-    -1, 256, 10 ** 20, -(10 ** 20), 10 ** 5000, True, False,
-    "", "7", "name", None, [], [7], (), (7,),
-    7.0, 0.5, float("nan"), float("inf"), 7 + 0j, Fraction(7), Decimal(7),
-    b"7", bytearray(b"7"), {}, {7: 7}, {7}, frozenset([7]), range(7),
-    int, len, object(), Posing(), Hostile(), Index(),
-)
 
 
 class MixedTest(unittest.TestCase):

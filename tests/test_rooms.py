@@ -3,15 +3,8 @@
 import unittest
 from itertools import product
 
+from reckoning import SIXTY, VALUES, own_signs
 from splitrooms.rooms import joined, parted, value_in, with_thing, without_thing
-
-GREAT = 10 ** 60 - 1
-VALUES = (0, 1, -1, 5, -70, 10 ** 59, -(10 ** 59), GREAT, -GREAT)
-
-
-def own_signs(name):
-    """The signs of a name, worked out apart from the program."""
-    return format((171 * name + 37) % 256, "08b")
 
 
 def valued(names):
@@ -173,11 +166,11 @@ class PartedTest(RoomsCase):
 
     def test_by_hand(self):
         # The mixed names of 0 to 4 are 37, 208, 123, 38 and 209.
-        room = ("", [(0, 5), (1, -6), (2, 7), (3, GREAT), (4, 0)])
+        room = ("", [(0, 5), (1, -6), (2, 7), (3, SIXTY), (4, 0)])
         low, high = parted(room)
-        self.assert_room(low, "0", [(0, 5), (2, 7), (3, GREAT)])
+        self.assert_room(low, "0", [(0, 5), (2, 7), (3, SIXTY)])
         self.assert_room(high, "1", [(1, -6), (4, 0)])
-        self.assertEqual(parted(low), (("00", [(0, 5), (3, GREAT)]), ("01", [(2, 7)])))
+        self.assertEqual(parted(low), (("00", [(0, 5), (3, SIXTY)]), ("01", [(2, 7)])))
         self.assertEqual(parted(high), (("10", []), ("11", [(1, -6), (4, 0)])))
 
     def test_with_no_things(self):
@@ -226,8 +219,8 @@ class JoinedTest(RoomsCase):
         self.assert_room(told, "1", [(1, -6), (4, 0)])
 
     def test_where_names_lie_one_between_the_other(self):
-        told = joined(("0", [(0, 9), (2, 1), (3, 5)]), ("1", [(1, 7), (4, -GREAT)]))
-        self.assert_room(told, "", [(0, 9), (1, 7), (2, 1), (3, 5), (4, -GREAT)])
+        told = joined(("0", [(0, 9), (2, 1), (3, 5)]), ("1", [(1, 7), (4, -SIXTY)]))
+        self.assert_room(told, "", [(0, 9), (1, 7), (2, 1), (3, 5), (4, -SIXTY)])
 
     def test_full_and_thinned_rooms(self):
         for bits in all_bits(0, 7):
